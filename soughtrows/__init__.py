@@ -1,0 +1,1 @@
+"""Sought rows: equations between unknown functions of whole numbers."""
