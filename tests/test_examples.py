@@ -1,0 +1,37 @@
+"""The examples of the interface, word for word, which the folder examples holds; and those of README.md."""
+
+import doctest
+import re
+import unittest
+from pathlib import Path
+
+FOLDER = Path(__file__).parent / "examples"
+
+
+class Examples(unittest.TestCase):
+    def check(self, name, many):
+        """All examples of a file come out as they are told; names go on from one to the next."""
+        self.check_text((FOLDER / name).read_text(encoding="utf-8"), name, many)
+
+    def check_text(self, text, name, many):
+        test = doctest.DocTestParser().get_doctest(text, {}, name, name, 0)
+        told = []
+        found = doctest.DocTestRunner(verbose=False).run(test, out=told.append)
+        self.assertEqual((found.failed, found.attempted), (0, many), "".join(told))
+
+    def test_stage_1(self):
+        self.check("stage1.txt", 5)
+
+    def test_stage_2(self):
+        self.check("stage2.txt", 12)
+
+    def test_directions(self):
+        self.check("directions.txt", 4)
+
+    def test_readme(self):
+        text = (FOLDER.parent.parent / "README.md").read_text(encoding="utf-8")
+        self.check_text("\n".join(re.findall(r"```\n(>>>.*?)```", text, re.DOTALL)), "README.md", 7)
+
+
+if __name__ == "__main__":
+    unittest.main()
