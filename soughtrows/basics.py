@@ -40,3 +40,8 @@ def greatest_divisor(numbers):
     for number in numbers:
         found = gcd(found, number)
     return found
+
+
+def product_sum(one, two):
+    """The sum of the products of the INTEGERS at the same places of two lists."""
+    return sum([left * right for left, right in zip(one, two)])

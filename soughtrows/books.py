@@ -3,7 +3,8 @@
 from soughtrows.basics import are_counts, is_count, is_list, is_position
 from soughtrows.checks import is_place
 from soughtrows.errors import (
-    InvalidBlend, InvalidBook, InvalidFunctions, InvalidLine, InvalidLines, InvalidOrder, InvalidPosition, TooMany,
+    InvalidBlend, InvalidBook, InvalidFunction, InvalidFunctions, InvalidLine, InvalidLines, InvalidOrder,
+    InvalidPosition, TooMany,
 )
 from soughtrows.lines import MOST_FUNCTIONS, Line, instance, plain_values
 from soughtrows.ratios import Ratio, is_number
@@ -78,6 +79,11 @@ def said(book, blend):
     check_book(book)
     if not is_blend(book, blend):
         raise InvalidBlend(blend)
+    return saying_of(book, blend)
+
+
+def saying_of(book, blend):
+    """What a list of tuples (NUMBER, position of a line, place) says, however long it is."""
     lines = book.lines()
     values, rests = [], []
     for number, position, place in blend:
@@ -95,6 +101,11 @@ def check_book(book):
 def check_line_of(book, line):
     if not _is_line_of(book.functions, line):
         raise InvalidLine(line)
+
+
+def check_function(book, function):
+    if not is_position(book.functions, function):
+        raise InvalidFunction(function)
 
 
 def _is_line_of(functions, value):

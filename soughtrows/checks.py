@@ -1,7 +1,7 @@
 """What the parameters of many functions have to be."""
 
-from soughtrows.basics import are_integers, is_count
-from soughtrows.errors import InvalidLetters, InvalidMore, InvalidNumber, InvalidPlace
+from soughtrows.basics import are_integers, is_count, is_integer
+from soughtrows.errors import InvalidLetters, InvalidMore, InvalidNumber, InvalidPlace, InvalidWhole
 from soughtrows.ratios import is_number
 
 MOST_LETTERS = 3
@@ -30,3 +30,8 @@ def check_place(letters, place):
 def check_number(number):
     if not is_number(number):
         raise InvalidNumber(number)
+
+
+def check_whole(whole):
+    if not is_integer(whole):
+        raise InvalidWhole(whole)

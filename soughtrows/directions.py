@@ -33,7 +33,7 @@ def pace(line, position):
     part, _ = _lone_argument(line, position)
     # Without other directions the common divisor is the pace; with some it goes into each of their numbers.
     found = greatest_divisor(part)
-    for other in _others(line, position):
+    for other in other_directions(line, position):
         found = lcm(found, _least_step(part, other))
     return found
 
@@ -41,7 +41,7 @@ def pace(line, position):
 def order(line, position):
     """The order of the term at the position."""
     _lone_argument(line, position)
-    return max([1, len(_others(line, position))])
+    return max([1, len(other_directions(line, position))])
 
 
 def class_of(line, position):
@@ -49,6 +49,15 @@ def class_of(line, position):
     part, number = _lone_argument(line, position)
     common = greatest_divisor(part)
     return common, number % common
+
+
+def other_directions(line, position):
+    """The unlike directions of the terms at other positions."""
+    found = []
+    for k, way in enumerate(_directions(line)):
+        if k != position and way is not None and way not in found:
+            found.append(way)
+    return found
 
 
 def _lone_argument(line, position):
@@ -65,15 +74,6 @@ def _lone_argument(line, position):
 
 def _directions(line):
     return [direction(line.letters, term[2]) for term in line.terms()]
-
-
-def _others(line, position):
-    """The unlike directions of the other terms."""
-    found = []
-    for k, way in enumerate(_directions(line)):
-        if k != position and way is not None and way not in found:
-            found.append(way)
-    return found
 
 
 def _least_step(part, other):

@@ -3,7 +3,7 @@
 from soughtrows.basics import is_count, is_list
 from soughtrows.errors import InvalidGoal, InvalidGoals, InvalidMany, InvalidRows
 from soughtrows.ratios import Ratio, are_numbers, as_ratio
-from soughtrows.reducing import reduced
+from soughtrows.reducing import columns_of, kernel_rows, led_to, reduced, solved, whole_row
 
 MOST_ROWS = 60
 MOST_WIDE = 60
@@ -14,7 +14,7 @@ def steps(rows):
     _check_rows(rows)
     if len(rows) == 0:
         return []
-    found, _, pivot = reduced(_ratio_rows(rows), len(rows[0]))
+    found, _, pivot = reduced(_whole_rows(rows), len(rows[0]))
     return [[Ratio(number, pivot) for number in row] for row in found]
 
 
@@ -25,21 +25,7 @@ def kernel(rows, wide):
         raise InvalidMany(wide)
     if len(rows) > 0 and len(rows[0]) != wide:
         raise InvalidRows(rows)
-    # Mirrored rows have their heads as far right as can be: so whatever is free stands ahead
-    # of the heads that hang on it, and the lists come out in steps.
-    mirrored, places, pivot = reduced([row[::-1] for row in _ratio_rows(rows)], wide)
-    found = [row[::-1] for row in mirrored]
-    heads = [wide - 1 - place for place in places]
-    return [_kernel_list(found, heads, pivot, free, wide) for free in range(wide) if free not in heads]
-
-
-def _kernel_list(found, heads, pivot, free, wide):
-    """The list that all rows lead to 0, with 1 at this free place and 0 at the others."""
-    made = [Ratio(0)] * wide
-    made[free] = Ratio(1)
-    for row, head in zip(found, heads):
-        made[head] = Ratio(-row[free], pivot)
-    return made
+    return kernel_rows(_whole_rows(rows), wide)
 
 
 def solution(rows, goals):
@@ -53,15 +39,14 @@ def is_solution(rows, goals, value):
     _check_rows_with_goals(rows, goals)
     if not are_numbers(value, len(rows[0])):
         return False
-    return all([_led(row, value) == as_ratio(goal) for row, goal in zip(rows, goals)])
+    return all([led_to(row, value) == as_ratio(goal) for row, goal in zip(rows, goals)])
 
 
 def bar(rows, goals):
     """A bar of the rows with these goals, None if there is none."""
     _check_rows_with_goals(rows, goals)
     wide = len(rows[0])
-    conditions = [_column(rows, place) for place in range(wide)] + [goals]
-    return _solved(conditions, [0] * wide + [1], len(rows))
+    return _solved(columns_of(rows, wide) + [goals], [0] * wide + [1], len(rows))
 
 
 def is_bar(rows, goals, value):
@@ -69,14 +54,14 @@ def is_bar(rows, goals, value):
     _check_rows_with_goals(rows, goals)
     if not are_numbers(value, len(rows)):
         return False
-    sums = [_led(_column(rows, place), value) for place in range(len(rows[0]))]
-    return all([found.sign == 0 for found in sums]) and _led(goals, value).sign != 0
+    sums = [led_to(column, value) for column in columns_of(rows, len(rows[0]))]
+    return all([found.sign == 0 for found in sums]) and led_to(goals, value).sign != 0
 
 
 def mix(rows, goal):
     """A mix of the rows for the goal, None if there is none."""
     _check_rows_with_goal(rows, goal)
-    return _solved([_column(rows, place) for place in range(len(goal))], goal, len(rows))
+    return _solved(columns_of(rows, len(goal)), goal, len(rows))
 
 
 def is_mix(rows, goal, value):
@@ -84,32 +69,21 @@ def is_mix(rows, goal, value):
     _check_rows_with_goal(rows, goal)
     if not are_numbers(value, len(rows)):
         return False
-    return all([_led(_column(rows, place), value) == as_ratio(number) for place, number in enumerate(goal)])
+    columns = columns_of(rows, len(goal))
+    return all([led_to(column, value) == as_ratio(number) for column, number in zip(columns, goal)])
 
 
 def _solved(rows, goals, wide):
     """A list of this width that each row leads to its goal, None if there is none."""
-    told = [[as_ratio(number) for number in [*row, goal]] for row, goal in zip(rows, goals)]
-    found, heads, pivot = reduced(told, wide + 1)
-    if wide in heads:
-        return None
-    made = [Ratio(0)] * wide
-    for row, head in zip(found, heads):
-        made[head] = Ratio(row[wide], pivot)
-    return made
-
-
-def _led(row, numbers):
-    """What the row leads the numbers to."""
-    return Ratio.total([one * two for one, two in zip(row, numbers)])
-
-
-def _column(rows, place):
-    return [row[place] for row in rows]
+    return solved(_ratio_rows(rows), [as_ratio(goal) for goal in goals], wide)
 
 
 def _ratio_rows(rows):
     return [[as_ratio(number) for number in row] for row in rows]
+
+
+def _whole_rows(rows):
+    return [whole_row(row) for row in _ratio_rows(rows)]
 
 
 def _is_width(value):

@@ -1,6 +1,6 @@
 """Sums of letters: arguments and rests, their worths at places, and both with puts."""
 
-from soughtrows.basics import are_counts, are_integers, is_list
+from soughtrows.basics import are_counts, are_integers, is_list, product_sum
 from soughtrows.checks import check_letters, check_more, check_place
 from soughtrows.errors import InvalidArgument, InvalidPuts, InvalidRest
 from soughtrows.joining import joined
@@ -20,7 +20,7 @@ def argument_at(letters, argument, place):
     """The worth of the argument at the place."""
     check_argument(letters, argument)
     check_place(letters, place)
-    return sum([many * number for many, number in zip(argument, place)]) + argument[letters]
+    return product_sum(argument, place) + argument[letters]
 
 
 def argument_put(letters, argument, more, puts):
@@ -43,7 +43,7 @@ def rest_at(letters, rest, place):
     """The worth of the rest at the place."""
     check_rest(letters, rest)
     check_place(letters, place)
-    return Ratio.total([number * _product(powers, place) for number, powers in rest])
+    return Ratio.total([number * power_product(powers, place) for number, powers in rest])
 
 
 def rest_degree(letters, rest):
@@ -60,6 +60,15 @@ def rest_put(letters, rest, more, puts):
     for number, powers in rest:
         pairs.extend(_expanded(number, powers, more, sums))
     return _pieces(pairs)
+
+
+def power_product(powers, numbers):
+    """The numbers multiplied, each as often as its power tells."""
+    found = 1
+    for power, number in zip(powers, numbers):
+        for _ in range(power):
+            found = found * number
+    return found
 
 
 def check_argument(letters, argument):
@@ -89,15 +98,6 @@ def _is_piece(letters, value):
 def _pieces(pairs):
     """The plain pieces of pairs (tuple of powers, NUMBER)."""
     return [(number, list(powers)) for powers, number in joined(pairs)]
-
-
-def _product(powers, place):
-    """The place's numbers multiplied, each as often as its power tells."""
-    found = 1
-    for power, number in zip(powers, place):
-        for _ in range(power):
-            found = found * number
-    return found
 
 
 def _sum_of_letters(argument):

@@ -25,12 +25,18 @@ class Examples(unittest.TestCase):
     def test_stage_2(self):
         self.check("stage2.txt", 12)
 
-    def test_directions(self):
-        self.check("directions.txt", 4)
+    def test_stage_3(self):
+        self.check("stage3.txt", 9)
+
+    def test_stage_4(self):
+        self.check("stage4.txt", 8)
+
+    def test_stage_5(self):
+        self.check("stage5.txt", 9)
 
     def test_readme(self):
         text = (FOLDER.parent.parent / "README.md").read_text(encoding="utf-8")
-        self.check_text("\n".join(re.findall(r"```\n(>>>.*?)```", text, re.DOTALL)), "README.md", 7)
+        self.check_text("\n".join(re.findall(r"```\n(>>>.*?)```", text, re.DOTALL)), "README.md", 10)
 
 
 if __name__ == "__main__":

@@ -219,6 +219,16 @@ class Functions(unittest.TestCase):
                 self.assertLessEqual(keywords, {"key", "reverse", "default", "start", "strict"}, (name, node.lineno))
             self.assertIsInstance(node.func, (ast.Name, ast.Attribute), (name, node.lineno))
 
+    def test_stars_in_calls(self):
+        for name, node in nodes(ast.Call):
+            for passed in node.args:
+                if isinstance(passed, ast.Starred):
+                    self.assertIsInstance(passed.value, (ast.Name, ast.Attribute), (name, node.lineno))
+                    self.assertIsInstance(node.func, (ast.Name, ast.Attribute))
+                    if isinstance(node.func, ast.Name):
+                        own = {one.name for _, one in functions()}
+                        self.assertIn(node.func.id, own | {"zip", "max", "min"}, (name, node.lineno))
+
     def test_raised(self):
         for name, node in nodes(ast.Raise):
             self.assertTrue(node.exc is None or isinstance(node.exc, ast.Call) and isinstance(node.exc.func, ast.Name))
@@ -233,6 +243,10 @@ class Interface(unittest.TestCase):
             "lines": "Line instance put plus times",
             "books": "Book with_line without_line renamed is_blend said",
             "directions": "direction alone pace order class_of",
+            "sheets": "is_sheet steps_of sheet_blend is_held loose sheets room",
+            "courses": "Course plus times led difference grown",
+            "kept": "value_at look keeps break_of keeps_book break_in",
+            "spaces": "is_kept dimension period degree space is_space",
         }
         found = trees()
         for name, words in listed.items():
