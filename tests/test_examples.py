@@ -32,11 +32,17 @@ class Examples(unittest.TestCase):
         self.check("stage4.txt", 8)
 
     def test_stage_5(self):
-        self.check("stage5.txt", 9)
+        self.check("stage5.txt", 12)
+
+    def test_stage_6(self):
+        self.check("stage6.txt", 10)
+
+    def test_stage_7(self):
+        self.check("stage7.txt", 6)
 
     def test_readme(self):
         text = (FOLDER.parent.parent / "README.md").read_text(encoding="utf-8")
-        self.check_text("\n".join(re.findall(r"```\n(>>>.*?)```", text, re.DOTALL)), "README.md", 10)
+        self.check_text("\n".join(re.findall(r"```\n(>>>.*?)```", text, re.DOTALL)), "README.md", 15)
 
 
 if __name__ == "__main__":

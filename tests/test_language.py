@@ -247,6 +247,10 @@ class Interface(unittest.TestCase):
             "courses": "Course plus times led difference grown",
             "kept": "value_at look keeps break_of keeps_book break_in",
             "spaces": "is_kept dimension period degree space is_space",
+            "nones": "none_blend is_none_blend",
+            "follows": "follows break_by shown is_shown",
+            "ties": "ties needless alike",
+            "given": "through clash is_clash forced",
         }
         found = trees()
         for name, words in listed.items():

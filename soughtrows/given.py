@@ -1,0 +1,98 @@
+"""Told values of functions: fillings that have them, clashes, and what they force."""
+
+from soughtrows.basics import is_integer, is_list, is_position
+from soughtrows.books import check_book, check_function
+from soughtrows.checks import check_whole
+from soughtrows.errors import InvalidValues, NoneHasThem
+from soughtrows.ratios import Ratio, are_numbers, as_ratio, is_number
+from soughtrows.reducing import columns_of, led_to, solved
+from soughtrows.spaces import kept_answers
+
+MOST_VALUES = 40
+
+
+def through(book, values):
+    """A filling that keeps the book and has the values, None if there is none."""
+    found = _answers_with(book, values)
+    numbers = _numbers_through(found, values)
+    return None if numbers is None else found.filling(numbers, 1)
+
+
+def clash(book, values):
+    """A clash of the values, None if some filling that keeps the book has them."""
+    found = _answers_with(book, values)
+    rows, goals = _rows_and_goals(found, values)
+    columns = columns_of(rows, len(found.basis))
+    return solved(columns + [goals], [Ratio(0)] * len(columns) + [Ratio(1)], len(values))
+
+
+def is_clash(book, values, value):
+    """Whether any value is a clash of the values."""
+    found = _answers_with(book, values)
+    if not are_numbers(value, len(values)):
+        return False
+    rows, goals = _rows_and_goals(found, values)
+    worths = [led_to(column, value) for column in columns_of(rows, len(found.basis))]
+    return all([worth.sign == 0 for worth in worths]) and led_to(goals, value).sign != 0
+
+
+def forced(book, values, function, whole):
+    """The worth of the function at the whole number that the values force, None if they force none."""
+    check_book(book)
+    _check_values(book, values)
+    check_function(book, function)
+    check_whole(whole)
+    found = kept_answers(book)
+    numbers = _numbers_through(found, values)
+    if numbers is None:
+        raise NoneHasThem()
+    rows, _ = _rows_and_goals(found, values)
+    columns = columns_of(rows, len(found.basis))
+    if solved(columns, _basis_row(found, function, whole), len(values)) is None:
+        return None
+    return found.worth(function, whole, numbers, 1)
+
+
+def _answers_with(book, values):
+    """The answers of the book, of which these are values."""
+    check_book(book)
+    _check_values(book, values)
+    return kept_answers(book)
+
+
+def _rows_and_goals(found, values):
+    """What the basis has at the spots of the values, and how much more these are than the first filling has there."""
+    rows = [_basis_row(found, function, whole) for function, whole, _ in values]
+    goals = [as_ratio(told) - found.worth(function, whole, found.first, 1) for function, whole, told in values]
+    return rows, goals
+
+
+def _basis_row(found, function, whole):
+    return [found.worth(function, whole, numbers, 0) for numbers in found.basis]
+
+
+def _numbers_through(found, values):
+    """Numbers for the unknowns whose filling keeps the book and has the values, None if there are none."""
+    rows, goals = _rows_and_goals(found, values)
+    times = solved(rows, goals, len(found.basis))
+    if times is None:
+        return None
+    made = found.first
+    for many, numbers in zip(times, found.basis):
+        made = [one + many * two for one, two in zip(made, numbers)]
+    return made
+
+
+def _check_values(book, values):
+    if not is_list(values) or len(values) > MOST_VALUES or not all([_is_value(book, value) for value in values]):
+        raise InvalidValues(values)
+    spots = set([(function, whole) for function, whole, _ in values])
+    if len(spots) < len(values):
+        raise InvalidValues(values)
+
+
+def _is_value(book, value):
+    if not isinstance(value, tuple) or len(value) != 3:
+        return False
+    function, whole, number = value
+    return is_position(book.functions, function) and is_integer(whole) and is_number(number)
