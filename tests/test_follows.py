@@ -195,6 +195,13 @@ class Shown(unittest.TestCase):
             self.check(cube, Line(1, [(1, 0, [6, 3])], [(15, [1]), (5, [0])]), place)
             self.check(cube, Line(1, [(1, 0, [1, 0])], [(-1, [3])]), place, place[0] % 2 == 0)
 
+    def test_by_classes_of_three(self):
+        book = Book(1, [bracket(3, 1, [(-1, [2])]), bracket(3, -1, [(2, [1]), (1, [0])]), bracket(3, 0, [(-1, [3])])])
+        for whole in range(-40, 41):
+            worth = [(whole // 3) ** 3, (whole // 3) ** 2, -2 * (whole // 3) - 3][whole % 3]
+            self.check(book, told(0, whole, worth), [])
+            self.check(book, told(0, whole, worth + 1), [], False)
+
     def test_each_instance_by_itself(self):
         draw = random.Random(64)
         seen = {True: 0, False: 0}
@@ -285,7 +292,8 @@ class Errors(unittest.TestCase):
             check_parameters(self, function, [("book", STAMPS), ("line", ODDS)], wrong)
         good = [("book", STAMPS), ("line", ODDS), ("place", [1, 2])]
         check_parameters(self, shown, good, wrong)
-        check_parameters(self, is_shown, good + [("value", [])], wrong)
+        for value in [[], None]:
+            check_parameters(self, is_shown, good + [("value", value)], wrong)
 
 
 if __name__ == "__main__":

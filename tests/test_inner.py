@@ -127,7 +127,8 @@ class Conditions(unittest.TestCase):
 
 class Windows(unittest.TestCase):
     BOOKS = [Book(1, [SUMS]), Book(1, [ODDS]), Book(1, [SQUARES]), Book(1, [middles(3)]), Book(1, [repeating(5)]),
-             Book(1, [bracket(2, 1), bracket(4, 4), bracket(-4, 2)])]
+             Book(1, [bracket(2, 1), bracket(4, 4), bracket(-4, 2)]),
+             Book(1, [bracket(5, 7 * left, [(left, [2])]) for left in range(5)])]
 
     def test_leads(self):
         for book in self.BOOKS:

@@ -93,6 +93,9 @@ class Known(unittest.TestCase):
             self.check(Book(1, lines), 0, 1, -1)
             self.check(Book(1, lines[1:] + [bracket(size, 0, [(-1, [0])])]), 0, size, 0)
             self.check(Book(1, lines[1:] + [bracket(size, 0, [(1, [3])])]), 0, size, 3)
+            for left in range(size):
+                others = lines[:left] + lines[left + 1:]
+                self.check(Book(1, others + [bracket(size, left - size, [(2, [2])])]), 0, size, 2)
         even = Line(2, [(1, 0, [2, 2, 0]), (-1, 0, [2, 0, 0]), (-1, 0, [0, 2, 0])], [])
         self.check(Book(1, [even, bracket(2, 1)]), 1, 2, 1)
 
