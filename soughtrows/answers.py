@@ -1,8 +1,8 @@
 """All fillings that keep a book that holds its functions, by the unknowns of their windows."""
 
-from soughtrows.conditions import conditions
-from soughtrows.ratios import Ratio, as_ratio
-from soughtrows.reducing import Span, common_bottom, kernel_rows, led_to, solved, times_whole, whole_row
+from soughtrows.conditions import line_conditions
+from soughtrows.ratios import Ratio
+from soughtrows.reducing import Span, all_that_meet, led_to, whole_row
 from soughtrows.windows import whole_power_rows, windows_of
 
 
@@ -17,26 +17,14 @@ class Answers:
         for line in book.lines():
             for row in self.line_rows(line):
                 self.span.grow(row)
-        self.first = self._first()
-        self.basis = kernel_rows([row[:-1] for row in self.span.rows()], self.wide - 1) if self.is_kept() else []
-
-    def _first(self):
-        """Numbers for the unknowns that meet all conditions, None if there are none."""
-        rows = [[as_ratio(number) for number in row] for row in self.span.rows()]
-        return solved([row[:-1] for row in rows], [-row[-1] for row in rows], self.wide - 1)
+        self.first, self.basis = all_that_meet(self.span.rows(), self.wide - 1)
 
     def is_kept(self):
         return self.first is not None
 
     def line_rows(self, line):
         """The rows that lead to 0 just the unknowns, with 1 beside them, whose fillings keep the line."""
-        terms, rest = line.terms(), line.rest()
-        many = common_bottom([told[0] for told in terms + rest])
-        numbers = times_whole([told[0] for told in terms], many)
-        whole = [(number, self._parts[term[1]], term[2]) for number, term in zip(numbers, terms)]
-        besides = times_whole([told[0] for told in rest], many * self._times)
-        pieces = [(number, powers) for number, (_, powers) in zip(besides, rest)]
-        return conditions(line.letters, whole, pieces, self.wide)
+        return line_conditions(line, self._parts, self._times, self.wide)
 
     def follows(self, line):
         """Whether all that keep the book keep the line."""
@@ -68,6 +56,18 @@ class Answers:
     def worth(self, function, whole, numbers, times):
         """The worth at the whole number with these numbers for the unknowns, and so many times what the rests give."""
         return led_to(self.row([(function, whole, Ratio(1))], Ratio(0)), [*numbers, times])
+
+    def basis_row(self, function, whole):
+        """The worths that the basis has at the whole number."""
+        row = self.row([(function, whole, Ratio(1))], Ratio(0))
+        return [led_to(row, [*numbers, 0]) for numbers in self.basis]
+
+    def made(self, times):
+        """The first numbers, and those of the basis, each so many times, added."""
+        found = self.first
+        for many, numbers in zip(times, self.basis):
+            found = [one + many * two for one, two in zip(found, numbers)]
+        return found
 
     def filling(self, numbers, times):
         """The filling with these numbers for the unknowns, and so many times what the rests give."""

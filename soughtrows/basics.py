@@ -43,5 +43,5 @@ def greatest_divisor(numbers):
 
 
 def product_sum(one, two):
-    """The sum of the products of the INTEGERS at the same places of two lists."""
+    """The sum of the products of the NUMBERS at the same places of two lists."""
     return sum([left * right for left, right in zip(one, two)])

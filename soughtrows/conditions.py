@@ -9,8 +9,22 @@ very many."""
 from math import comb, gcd, lcm
 
 from soughtrows.directions import direction
+from soughtrows.reducing import common_bottom, times_whole
 from soughtrows.sums import power_product
 from soughtrows.wholes import counts_of, moebius
+
+
+def line_conditions(line, parts, times, wide):
+    """Rows of INTEGERS; the unknowns that they lead to 0, with 1 beside them, are just those that keep the line.
+
+    The parts of each function are so many times its power rows, in INTEGERS."""
+    terms, rest = line.terms(), line.rest()
+    many = common_bottom([told[0] for told in terms + rest])
+    numbers = times_whole([told[0] for told in terms], many)
+    whole = [(number, parts[term[1]], term[2]) for number, term in zip(numbers, terms)]
+    besides = times_whole([told[0] for told in rest], many * times)
+    pieces = [(number, powers) for number, (_, powers) in zip(besides, rest)]
+    return conditions(line.letters, whole, pieces, wide)
 
 
 def conditions(letters, terms, pieces, wide):

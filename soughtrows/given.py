@@ -1,14 +1,12 @@
 """Told values of functions: fillings that have them, clashes, and what they force."""
 
-from soughtrows.basics import is_integer, is_list, is_position
 from soughtrows.books import check_book, check_function
 from soughtrows.checks import check_whole
 from soughtrows.errors import InvalidValues, NoneHasThem
-from soughtrows.ratios import Ratio, are_numbers, as_ratio, is_number
+from soughtrows.ratios import Ratio, are_numbers, as_ratio
 from soughtrows.reducing import columns_of, led_to, solved
 from soughtrows.spaces import kept_answers
-
-MOST_VALUES = 40
+from soughtrows.spots import are_values
 
 
 def through(book, values):
@@ -48,7 +46,7 @@ def forced(book, values, function, whole):
         raise NoneHasThem()
     rows, _ = _rows_and_goals(found, values)
     columns = columns_of(rows, len(found.basis))
-    if solved(columns, _basis_row(found, function, whole), len(values)) is None:
+    if solved(columns, found.basis_row(function, whole), len(values)) is None:
         return None
     return found.worth(function, whole, numbers, 1)
 
@@ -62,37 +60,18 @@ def _answers_with(book, values):
 
 def _rows_and_goals(found, values):
     """What the basis has at the spots of the values, and how much more these are than the first filling has there."""
-    rows = [_basis_row(found, function, whole) for function, whole, _ in values]
+    rows = [found.basis_row(function, whole) for function, whole, _ in values]
     goals = [as_ratio(told) - found.worth(function, whole, found.first, 1) for function, whole, told in values]
     return rows, goals
-
-
-def _basis_row(found, function, whole):
-    return [found.worth(function, whole, numbers, 0) for numbers in found.basis]
 
 
 def _numbers_through(found, values):
     """Numbers for the unknowns whose filling keeps the book and has the values, None if there are none."""
     rows, goals = _rows_and_goals(found, values)
     times = solved(rows, goals, len(found.basis))
-    if times is None:
-        return None
-    made = found.first
-    for many, numbers in zip(times, found.basis):
-        made = [one + many * two for one, two in zip(made, numbers)]
-    return made
+    return None if times is None else found.made(times)
 
 
 def _check_values(book, values):
-    if not is_list(values) or len(values) > MOST_VALUES or not all([_is_value(book, value) for value in values]):
+    if not are_values(book.functions, values):
         raise InvalidValues(values)
-    spots = set([(function, whole) for function, whole, _ in values])
-    if len(spots) < len(values):
-        raise InvalidValues(values)
-
-
-def _is_value(book, value):
-    if not isinstance(value, tuple) or len(value) != 3:
-        return False
-    function, whole, number = value
-    return is_position(book.functions, function) and is_integer(whole) and is_number(number)

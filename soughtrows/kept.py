@@ -17,14 +17,14 @@ MOST_PLACES = 2000
 
 def value_at(line, filling, place):
     """What the line adds up to at the place."""
-    _check_line_filling(line, filling)
+    check_line_filling(line, filling)
     check_place(line.letters, place)
     return worth_at(line, filling, place)
 
 
 def look(line, filling):
     """How many places the line's look has."""
-    _check_line_filling(line, filling)
+    check_line_filling(line, filling)
     return _size(line, filling)
 
 
@@ -35,7 +35,7 @@ def keeps(line, filling):
 
 def break_of(line, filling):
     """A place at which the filling does not keep the line, None if it keeps it."""
-    _check_line_filling(line, filling)
+    check_line_filling(line, filling)
     _check_size([line], filling)
     return _first_break(line, filling)
 
@@ -62,6 +62,13 @@ def check_filling(book, filling):
         raise InvalidFilling(filling)
 
 
+def check_line_filling(line, filling):
+    check_line(line)
+    greatest = max([function for _, function, _ in line.terms()], default=0)
+    if not is_filling(filling, greatest + 1, MOST_FUNCTIONS):
+        raise InvalidFilling(filling)
+
+
 def worth_at(line, filling, place):
     """What the line adds up to; all that is passed is valid."""
     values = [
@@ -69,13 +76,6 @@ def worth_at(line, filling, place):
         for number, function, argument in line.terms()
     ]
     return Ratio.total(values) + rest_at(line.letters, line.rest(), place)
-
-
-def _check_line_filling(line, filling):
-    check_line(line)
-    greatest = max([function for _, function, _ in line.terms()], default=0)
-    if not is_filling(filling, greatest + 1, MOST_FUNCTIONS):
-        raise InvalidFilling(filling)
 
 
 def _measure(line, filling):

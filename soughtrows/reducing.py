@@ -76,6 +76,15 @@ def solved(rows, goals, wide):
     return made
 
 
+def all_that_meet(rows, wide):
+    """All lists of this width that rows of INTEGERS, a place wider, lead to 0 with 1 behind the list.
+
+    A tuple of one of them, None if there are none, and free lists whose sums of multiples can be added."""
+    goals = [Ratio(-row[wide]) for row in rows]
+    parts = [row[:wide] for row in rows]
+    return solved([[Ratio(number) for number in part] for part in parts], goals, wide), kernel_rows(parts, wide)
+
+
 def led_to(row, numbers):
     """What the row leads the numbers to."""
     return Ratio.total([one * two for one, two in zip(row, numbers)])

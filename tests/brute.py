@@ -125,3 +125,14 @@ def small_books(seed, many):
         if all(is_held_by(book, k) for k in range(book.functions)) and room_of(book) <= 24 and box_size(book) < 800:
             found.append(book)
     return found
+
+
+def free_rows(rows):
+    """The positions of the rows of Ratios that are not made of those ahead of them."""
+    found, free = {}, []
+    for position, row in enumerate(rows):
+        many = len(found)
+        grow(found, {place: as_left(number) for place, number in enumerate(row) if as_left(number)})
+        if len(found) > many:
+            free.append(position)
+    return free

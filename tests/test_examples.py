@@ -38,11 +38,14 @@ class Examples(unittest.TestCase):
         self.check("stage6.txt", 10)
 
     def test_stage_7(self):
-        self.check("stage7.txt", 6)
+        self.check("stage7.txt", 8)
+
+    def test_stage_8(self):
+        self.check("stage8.txt", 16)
 
     def test_readme(self):
         text = (FOLDER.parent.parent / "README.md").read_text(encoding="utf-8")
-        self.check_text("\n".join(re.findall(r"```\n(>>>.*?)```", text, re.DOTALL)), "README.md", 15)
+        self.check_text("\n".join(re.findall(r"```\n(>>>.*?)```", text, re.DOTALL)), "README.md", 20)
 
 
 if __name__ == "__main__":

@@ -251,6 +251,10 @@ class Interface(unittest.TestCase):
             "follows": "follows break_by shown is_shown",
             "ties": "ties needless alike",
             "given": "through clash is_clash forced",
+            "lots": "settles rank_of first_free least_spots twins",
+            "plain": "is_plainly_held plain_value plain_dimension plain_space is_only_plain",
+            "makers": "sums squares parted middles differences",
+            "stretches": "inside keeps_within break_within is_long stray",
         }
         found = trees()
         for name, words in listed.items():
