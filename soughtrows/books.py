@@ -21,7 +21,7 @@ class Book:
             raise InvalidFunctions(functions)
         if not is_list(lines) or len(lines) > MOST_LINES:
             raise InvalidLines(lines)
-        if not all([_is_line_of(functions, line) for line in lines]):
+        if not all([is_line_of(functions, line) for line in lines]):
             raise InvalidLines(lines)
         self._functions = functions
         self._lines = list(lines)
@@ -93,24 +93,24 @@ def saying_of(book, blend):
     return plain_values(values), Ratio.total(rests)
 
 
+def is_line_of(functions, value):
+    """Whether any value is a line that names functions below this one alone."""
+    return isinstance(value, Line) and all([term[1] < functions for term in value.terms()])
+
+
 def check_book(book):
     if not isinstance(book, Book):
         raise InvalidBook(book)
 
 
 def check_line_of(book, line):
-    if not _is_line_of(book.functions, line):
+    if not is_line_of(book.functions, line):
         raise InvalidLine(line)
 
 
 def check_function(book, function):
     if not is_position(book.functions, function):
         raise InvalidFunction(function)
-
-
-def _is_line_of(functions, value):
-    """Whether any value is a line that names functions below this one alone."""
-    return isinstance(value, Line) and all([term[1] < functions for term in value.terms()])
 
 
 def _line_renamed(line, order):

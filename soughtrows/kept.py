@@ -57,6 +57,14 @@ def break_in(book, filling):
     return None
 
 
+def is_keeping(book, value):
+    """Whether any value is a filling of the book that keeps it, with looks of not too many places."""
+    if not is_filling(value, book.functions, book.functions):
+        return False
+    lines = book.lines()
+    return not _has_long_look(lines, value) and all([_first_break(line, value) is None for line in lines])
+
+
 def check_filling(book, filling):
     if not is_filling(filling, book.functions, book.functions):
         raise InvalidFilling(filling)
@@ -95,8 +103,12 @@ def _size(line, filling):
     return found
 
 
+def _has_long_look(lines, filling):
+    return any([_size(line, filling) > MOST_PLACES for line in lines])
+
+
 def _check_size(lines, filling):
-    if any([_size(line, filling) > MOST_PLACES for line in lines]):
+    if _has_long_look(lines, filling):
         raise TooMany("places", MOST_PLACES)
 
 

@@ -10,6 +10,7 @@ from soughtrows.errors import InvalidSheet, NotHeld
 from soughtrows.ratios import Ratio
 from soughtrows.wholes import divisor_mix
 
+MOST_SHEETS = 48
 MOST_SHIFTS = 5
 MOST_PACE = 12
 MOST_ORDER = 5
@@ -63,6 +64,17 @@ def room(book):
     check_held(book)
     measures = [taken(book, function)[:2] for function in range(book.functions)]
     return sum([step * many for step, many in measures])
+
+
+def is_cover(book, function, value):
+    """Whether any value is a list of sheets of the function, of good terms whose classes cover all whole numbers."""
+    if not is_list(value) or not 1 <= len(value) <= MOST_SHEETS:
+        return False
+    if not all([is_sheet(book, function, sheet) for sheet in value]):
+        return False
+    classes = {(told[0], told[1]): told[4] for told in _good_terms(book, function)}
+    used = [(sheet[0], sheet[1]) for sheet in value]
+    return all([told in classes for told in used]) and _covers([classes[told] for told in used])
 
 
 def check_held(book):

@@ -43,6 +43,9 @@ class Examples(unittest.TestCase):
     def test_stage_8(self):
         self.check("stage8.txt", 16)
 
+    def test_stage_9(self):
+        self.check("stage9.txt", 20)
+
     def test_readme(self):
         text = (FOLDER.parent.parent / "README.md").read_text(encoding="utf-8")
         self.check_text("\n".join(re.findall(r"```\n(>>>.*?)```", text, re.DOTALL)), "README.md", 20)

@@ -71,6 +71,11 @@ def local_names(function):
     return [node.arg for node in inside if isinstance(node, ast.arg)] + stored
 
 
+def enclosing(name, inner):
+    """The function of the file in which the node stands."""
+    return [node for told, node in functions() if told == name and inner in ast.walk(node)][-1]
+
+
 def own_methods():
     return {node.name for _, made in nodes(ast.ClassDef) for node in made.body if isinstance(node, ast.FunctionDef)}
 
@@ -159,7 +164,7 @@ class Classes(unittest.TestCase):
             if one.startswith("__"):
                 self.assertIn(one, DOUBLE)
             else:
-                self.assertNotIn(one, BUILTIN_OWN | BUILTINS | ERRORS | BARRED)
+                self.assertNotIn(one, (BUILTIN_OWN - METHODS) | BUILTINS | ERRORS | BARRED)
 
     def test_decorators(self):
         for name, node in functions():
@@ -226,7 +231,8 @@ class Functions(unittest.TestCase):
                     self.assertIsInstance(passed.value, (ast.Name, ast.Attribute), (name, node.lineno))
                     self.assertIsInstance(node.func, (ast.Name, ast.Attribute))
                     if isinstance(node.func, ast.Name):
-                        own = {one.name for _, one in functions()}
+                        own = {one.name for _, one in functions() + nodes(ast.ClassDef)}
+                        own |= set(local_names(enclosing(name, node)))
                         self.assertIn(node.func.id, own | {"zip", "max", "min"}, (name, node.lineno))
 
     def test_raised(self):
@@ -255,6 +261,9 @@ class Interface(unittest.TestCase):
             "plain": "is_plainly_held plain_value plain_dimension plain_space is_only_plain",
             "makers": "sums squares parted middles differences",
             "stretches": "inside keeps_within break_within is_long stray",
+            "texts": "sorts is_of_sort written", "readers": "read",
+            "claims": "words is_claim is_true contrary paper_of is_paper_of",
+            "commands": "is_name is_command is_deed", "desk": "Desk Trial tried",
         }
         found = trees()
         for name, words in listed.items():
