@@ -41,9 +41,8 @@ def is_true(claim):
 def contrary(claim):
     """The claim that is true just if this one is not."""
     _check_claim(claim)
-    word, *parts = copied(claim)
-    first, second = _pair_of(word)
-    return (second if word == first else first, *parts)
+    first, second = _pair_of(claim[0])
+    return (second if claim[0] == first else first,) + copied(claim[1:])
 
 
 def paper_of(claim):

@@ -56,7 +56,8 @@ def parsed(value):
     """The tuple of a command's word, and of what its further words are and tell; None for any other value."""
     if not isinstance(value, str):
         return None
-    word, *rest = value.split(" ")
+    words = value.split(" ")
+    word, rest = words[0], words[1:]
     kinds = _kinds_of(word, rest)
     if kinds is None or len(kinds) != len(rest):
         return None

@@ -9,7 +9,8 @@ def read(text):
     if not isinstance(text, str):
         raise InvalidText(0)
     # What stands behind the last line feed is a line without one, or nothing.
-    *rows, left = text.split("\n")
+    pieces = text.split("\n")
+    rows, left = pieces[:-1], pieces[-1]
     taker = begun(rows[0].split(" ")) if len(rows) > 0 else None
     if taker is None:
         raise InvalidText(1)

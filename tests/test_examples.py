@@ -48,7 +48,7 @@ class Examples(unittest.TestCase):
 
     def test_readme(self):
         text = (FOLDER.parent.parent / "README.md").read_text(encoding="utf-8")
-        self.check_text("\n".join(re.findall(r"```\n(>>>.*?)```", text, re.DOTALL)), "README.md", 20)
+        self.check_text("\n".join(re.findall(r"```\n(>>>.*?)```", text, re.DOTALL)), "README.md", 30)
 
 
 if __name__ == "__main__":
