@@ -23,7 +23,7 @@ def words():
 
 def is_claim(value):
     """Whether any value is a claim."""
-    if not isinstance(value, tuple) or len(value) < 2 or not isinstance(value[0], str):
+    if not isinstance(value, tuple) or len(value) < 2:
         return False
     if _pair_of(value[0]) is None or not isinstance(value[1], Book):
         return False

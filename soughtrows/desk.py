@@ -176,16 +176,16 @@ class Trial:
     """A block behind which all of the desk is as it was ahead."""
 
     def __init__(self, desk):
-        self._desk = desk
-        self._page = desk.page
+        self.desk = desk
+        self.page = desk.page
 
     def __enter__(self):
-        self._page = self._desk.page
-        return self._desk
+        self.page = self.desk.page
+        return self.desk
 
     def __exit__(self, kind, value, trace):
-        desk = self._desk
-        desk.page = self._page
+        desk = self.desk
+        desk.page = self.page
 
 
 def tried(desk, action):

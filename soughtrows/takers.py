@@ -35,7 +35,7 @@ class RowsTaker:
 
     def takes(self, words):
         row = _row_of(self._sort, words)
-        if row is None or not is_of_sort(self._sort, self._rows + [row]):
+        if not is_of_sort(self._sort, self._rows + [row]):
             return False
         self._rows.append(row)
         return True
@@ -173,7 +173,7 @@ def _bounded(words, least, most):
 
 
 def _row_of(sort, words):
-    """The row with these words, None if no row of the sort has as many or begins so; it may still be wrong."""
+    """The row with these words, None if no row of the sort has as many or begins so; it may be wrong in its parts."""
     word, *rest = words
     if (sort, word, len(rest)) == ("spots", "spot", 2):
         return count_of(rest[0]), integer_of(rest[1])

@@ -34,7 +34,7 @@ def written(sort, value):
 
 
 def _check_sort(sort):
-    if not isinstance(sort, str) or sort not in SORTS:
+    if sort not in SORTS:
         raise InvalidSort(sort)
 
 

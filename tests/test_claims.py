@@ -17,7 +17,7 @@ from soughtrows.claims import contrary, is_claim, is_paper_of, is_true, paper_of
 from soughtrows.courses import Course
 from soughtrows.errors import InvalidClaim, NobodyKeeps, NotHeld
 from soughtrows.follows import follows
-from soughtrows.kept import keeps_book
+from soughtrows.kept import keeps_book, look
 from soughtrows.lines import Line
 from soughtrows.lots import settles
 from soughtrows.ratios import Ratio
@@ -295,6 +295,10 @@ class Bent(unittest.TestCase):
         self.check(("kept", Book(1, [told(0, 7, 7), Line(1, [(1, 0, [60, 7])], [(-7, [0])])])), [[far]], True)
         self.check(("kept", Book(1, [repeating(44)])), [[Course([[k] for k in range(44)])]], True)
         self.check(("kept", Book(1, [repeating(45)])), [[Course([[k] for k in range(45)])]], False)
+        just = [Course([[0, 0, 0, 0, 1]] + [[0]] * 24), Course([[0]] * 15 + [[1]])]
+        two = Book(2, [Line(1, [(1, 0, [25, 1]), (1, 1, [16, 1])], [])])
+        self.assertEqual(look(two.lines()[0], just), 2000)
+        self.check(("kept", two), [just], True)
         line = told(0, 7, 8)
         self.check(("breaks", Book(1, [told(0, 7, 7)]), line), [([far], [])], True)
         self.check(("breaks", book, line), [([far], [])], False)

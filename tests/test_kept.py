@@ -158,7 +158,7 @@ class Kept(unittest.TestCase):
         line = Line(1, [(1, 0, [1, 0]), (-1, 1, [1, 0])], [])
         for periods, degree, is_told in [((40, 50), 0, True), ((40, 49), 0, True), ((45, 44), 0, True),
                                          ((47, 43), 0, False), ((50, 8), 7, True), ((43, 48), 0, False),
-                                         ((57, 5), 6, True), ((47, 6), 7, False)]:
+                                         ((57, 5), 6, True), ((47, 6), 7, False), ((25, 16), 4, True)]:
             filling = [single(periods[0], degree), single(periods[1])]
             size = math.lcm(*periods) * (degree + 1)
             self.assertEqual(look(line, filling), size)

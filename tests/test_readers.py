@@ -42,6 +42,7 @@ WRONG = {
     "line 2\nrest 1 2 2\n": 2, "line 1\nrest 1\n": 2, "line 1\nrest 1 1 1\n": 2, "line 1\nrest 1 -1\n": 2,
     "line 1\nrest 1 2\nrest 1 2\n": 3, "line 1\nrest 1 2\nrest 1 1\n": 3, "line 0\nrest 1\nrest 2\n": 3,
     "line 1\nrest 2/2 1\n": 2, "line 1\nline 1\n": 2, "line 1\n\n": 2, ADD + "\n": 5, ADD + "x\n": 5,
+    "line 1\nrest 1 0\nrest 1 2\nrest 1 1\n": 4, "line 1\nterm 1 0 1 0\nterm 1 0 3 0\nterm 1 0 2 0\n": 4,
     "line 2\nrest 1 1 0\nrest 1 0 1\n": 3, "line 1\nrest 1 01\n": 2, "line 1\nrest 1 1 \n": 2,
     # Books.
     "book\n": 1, "book 0\n": 1, "book 4\n": 1, "book 1 1\n": 1, "book 1\nterm 1 0 1\n": 2, "book 1\nrest 1\n": 2,
@@ -72,7 +73,7 @@ WRONG = {
     "blend\ntimes\n": 2, "blend\ntimes 1 0\n\n": 3, "blend\ntimes 1 0\ntimes 1 0 -0\n": 3,
 }
 RIGHT = ["line 0\n", "line 3\n", "book 1\n", "book 3\n" + "line 0\n" * 6, "spots\n", "values\n", "blend\n", "numbers\n",
-         EIGHT, EIGHT + "rest 1\n", "course 1\npart\n", "blend\n" + "times 0 0\n" * 400, "blend\ntimes 1 5 1 2 3\n",
+         EIGHT, EIGHT + "rest 1\n", "course 1\npart\n", "course 1\npart 1 1 1 1 1 1 1 1\n", "blend\n" + "times 0 0\n" * 400, "blend\ntimes 1 5 1 2 3\n",
          "course 4\npart 1\npart 2\npart 1\npart\n", "course 2\npart 1\npart 1 1\n", "argument 1 2 3 4\n",
          "line 1\nterm 1 0 9 0\nterm 1 0 10 -7\nterm 1 2 -1 0\nrest 1 0\nrest 1/2 3\n", "numbers" + " 1" * 60 + "\n",
          "spots\n" + "".join(f"spot 0 {k}\n" for k in range(40)), "book 1\n" + ADD * 6]

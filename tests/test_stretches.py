@@ -25,6 +25,10 @@ ANY = [Line(0, [], []), told(0, 2, 5), told(0, -3, 0), Line(1, [(1, 0, [2, 1]), 
        Line(3, [(1, 0, [1, 1, 1, 0]), (1, 0, [1, -2, 0, 3]), (1, 0, [0, 0, 5, 1])], [(1, [1, 1, 1])]), middles(3),
        Line(1, [(1, 0, [0, 7])], []), Line(1, [], [(1, [1])]), bracket(99, -99)]
 
+# Kept by n n and n n n, which no window tells without the rests.
+TWICE = Book(1, [Line(2, SUMS.terms(), [(-2, [1, 1])])])
+CUBES = Book(1, [Line(2, SUMS.terms(), [(-3, [2, 1]), (-3, [1, 2])])])
+
 
 def naive(book, low, high):
     """All instances inside, by going through all places of the stretch."""
@@ -201,7 +205,8 @@ class Long(unittest.TestCase):
                 (SPLIT, 0, 0, True), (SPLIT, 0, 1, True), (SPLIT, 0, 7, True), (SPLIT, 1, 3, False),
                 (Book(1, [SQUARES]), 0, 3, True), (Book(1, [middles(2)]), 0, 10, True), (Book(1, [middles(2)]), 0, 3, True),
                 (Book(1, [differences(3, 2)]), 0, 23, True), (Book(1, [repeating(5)]), 0, 7, True),
-                (Book(1, [SUMS, told(0, 3, 6)]), 0, 2, False), (Book(1, [SUMS, told(0, 3, 6)]), 0, 3, True)]:
+                (TWICE, 2, 5, False), (TWICE, 5, 9, False), (TWICE, 0, 5, True), (TWICE, -3, 2, True), (CUBES, 1, 3, True), (CUBES, 2, 3, False),
+                (CUBES, -1, 4, True), (Book(1, [SUMS, told(0, 3, 6)]), 0, 2, False), (Book(1, [SUMS, told(0, 3, 6)]), 0, 3, True)]:
             with self.subTest(terms=book.lines()[0].terms(), low=low, high=high):
                 self.assertIs(self.check(book, low, high), wanted)
         self.assertIs(is_long(book=ADDING, low=-1, high=1), True)
