@@ -84,18 +84,12 @@ def check_held(book):
 
 def taken(book, function):
     """What the room of a held function takes: one step, how many shifts, and the sheets with these."""
-    good = _good_terms(book, function)
-    whole = [told for told in good if told[4] == (1, 0)]
-    if len(whole) > 0:
-        # Among rooms alike small the one with fewer shifts has the shorter blends.
-        best = min(whole, key=lambda told: (told[2] * told[3], told[3]))
-        step, many, used = best[2], best[3], [best]
-    else:
-        step, many, used = 1, max([told[3] for told in good]), good
-        for told in good:
-            step = lcm(step, told[2])
-    lines = book.lines()
-    return step, many, [(told[0], told[1], _shifts(lines[told[0]], told[1], step, many)) for told in used]
+    return _measured(book, _room_terms(book, function))
+
+
+def needed(book, function):
+    """The same, of no more terms of the room than it takes to cover all whole numbers."""
+    return _measured(book, _covering(_room_terms(book, function)))
 
 
 def shifted_places(place, shifts):
@@ -121,6 +115,37 @@ def _good_terms(book, function):
             if terms[position][1] == function:
                 found.append((at, position, pace(line, position), order(line, position), class_of(line, position)))
     return [told for told in found if told[2] <= MOST_PACE and told[3] <= MOST_ORDER]
+
+
+def _room_terms(book, function):
+    """The good terms that the room of a held function takes."""
+    good = _good_terms(book, function)
+    whole = [told for told in good if told[4] == (1, 0)]
+    # Among rooms alike small the one with fewer shifts has the shorter blends.
+    return good if len(whole) == 0 else [min(whole, key=lambda told: (told[2] * told[3], told[3]))]
+
+
+def _covering(terms):
+    """Some of the terms, with small paces and orders, whose classes cover what the classes of all cover."""
+    common = 1
+    for told in terms:
+        common = lcm(common, told[4][0])
+    left, found = list(range(common)), []
+    for told in sorted(terms, key=lambda one: one[2] * one[3]):
+        size, beside = told[4]
+        further = [whole for whole in left if whole % size != beside]
+        if len(further) < len(left):
+            left, found = further, found + [told]
+    return found
+
+
+def _measured(book, terms):
+    """The least step and the number of shifts that all of the terms can have, and their sheets with these."""
+    step, many = 1, max([told[3] for told in terms])
+    for told in terms:
+        step = lcm(step, told[2])
+    lines = book.lines()
+    return step, many, [(told[0], told[1], _shifts(lines[told[0]], told[1], step, many)) for told in terms]
 
 
 def _covers(classes):

@@ -7,7 +7,7 @@ from soughtrows.courses import Course
 from soughtrows.polynomials import counting, differences_of, made_of
 from soughtrows.ratios import Ratio
 from soughtrows.reducing import common_bottom, times_whole
-from soughtrows.sheets import shifted_places, taken
+from soughtrows.sheets import needed, shifted_places
 from soughtrows.sums import rest_at, rest_degree
 from soughtrows.wholes import divisor_mix, lots_of
 
@@ -56,7 +56,7 @@ class Window:
     each times the number of lots of so many things out of n // step."""
 
     def __init__(self, book, function, start):
-        self.step, self.many, found = taken(book, function)
+        self.step, self.many, found = needed(book, function)
         self.start = start
         strips = [Strip(book, sheet) for sheet in found]
         self._strips = [[strip for strip in strips if strip.covers(left)][0] for left in range(self.step)]

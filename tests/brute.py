@@ -8,10 +8,10 @@ import math
 import random
 from fractions import Fraction
 
-from known import ODDS, SQUARES, SUMS, differences, middles, random_line, repeating, told
+from known import ODDS, SQUARES, SUMS, bracket, differences, middles, random_line, repeating, told
 from soughtrows.books import Book, renamed
 from soughtrows.directions import alone, class_of, order, pace
-from soughtrows.lines import put
+from soughtrows.lines import Line, put
 
 PRIME = 2 ** 61 - 1
 
@@ -123,6 +123,35 @@ def small_books(seed, many):
     while len(found) < many:
         book = random_book(draw)
         if all(is_held_by(book, k) for k in range(book.functions)) and room_of(book) <= 24 and box_size(book) < 800:
+            found.append(book)
+    return found
+
+
+def line_at_remainder(draw, size, left):
+    """A line that holds f at the numbers with this remainder."""
+    if draw.random() < 0.5:
+        more = [(draw.randint(-2, 2), 0, [0, draw.randint(-3, 3)])] if draw.random() < 0.5 else []
+        rest = [(draw.randint(-1, 1), [draw.randint(0, 2)])] if draw.random() < 0.4 else []
+        return Line(1, [(1, 0, [size, left]), *more], rest)
+    terms = [(1, 0, [size, size * draw.choice([1, 1, 2]), left]), (-1, 0, [size, 0, left]),
+             (draw.choice([-1, 1, 0, 2]), 0, [0, size, draw.choice([0, left])])]
+    return Line(2, terms, [(draw.randint(-1, 1), [1, 1])] if draw.random() < 0.3 else [])
+
+
+def parted_books(seed, many):
+    """Random books that hold f by several classes alone, some of them more than it takes."""
+    draw = random.Random(seed)
+    found = []
+    while len(found) < many:
+        size = draw.choice([2, 2, 3, 4])
+        lines = [line_at_remainder(draw, size, left) for left in range(size)]
+        for _ in range(draw.randint(0, 6 - size)):
+            lines.append(draw.choice([random_line(draw, 1), bracket(draw.choice([2, 3, 4, 6]), draw.randint(0, 3)),
+                                      told(0, draw.randint(-3, 3), draw.randint(-1, 1))]))
+        draw.shuffle(lines)
+        book = Book(1, lines)
+        is_parted = is_held_by(book, 0) and not any(one == (1, 0) for _, _, one in good_terms(book, 0))
+        if is_parted and room_of(book) <= 24 and box_size(book) < 800:
             found.append(book)
     return found
 

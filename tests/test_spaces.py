@@ -4,7 +4,7 @@ import itertools
 import random
 import unittest
 
-from brute import brute_dimension, small_books
+from brute import brute_dimension, parted_books, small_books
 from helpers import as_tuples, as_words, check_bare, check_new, check_parameters, not_lists, unchanged
 from known import (
     ADDING, NOUGHT, ODD, ODDS, SAME, SPLIT, SQUARES, STAMPS, SUMS, bracket, differences, is_kept_near, middles,
@@ -15,6 +15,7 @@ from soughtrows.courses import Course, plus, times
 from soughtrows.errors import InvalidBook, NobodyKeeps, NotHeld
 from soughtrows.lines import Line, put
 from soughtrows.lines import times as line_times
+from soughtrows.nones import is_none_blend, none_blend
 from soughtrows.ratios import Ratio
 from soughtrows.spaces import degree, dimension, is_kept, is_space, period, space
 
@@ -149,6 +150,19 @@ class Random(unittest.TestCase):
                 Known.check_space(self, book)
                 self.assertEqual(dimension(book), told_dimension)
         self.assertTrue(len(seen) > 4 and seen[None] > 5, seen)
+
+    def test_held_by_several_classes(self):
+        seen = {}
+        for book in parted_books(54, 80):
+            told_dimension = brute_dimension(book)
+            self.assertIs(is_kept(book), told_dimension is not None)
+            seen[told_dimension] = seen.get(told_dimension, 0) + 1
+            if told_dimension is None:
+                self.assertIs(is_none_blend(book, none_blend(book)), True)
+            else:
+                Known.check_space(self, book)
+                self.assertEqual(dimension(book), told_dimension)
+        self.assertTrue(len(seen) > 3 and seen[None] > 5, seen)
 
     def test_exchanged_and_changed(self):
         for book in small_books(53, 12):

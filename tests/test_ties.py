@@ -20,6 +20,7 @@ from soughtrows.errors import (
 from soughtrows.follows import follows
 from soughtrows.lines import Line, put, times
 from soughtrows.ratios import Ratio
+from soughtrows.sheets import room
 from soughtrows.solved import is_mix, steps
 from soughtrows.spaces import is_kept
 from soughtrows.ties import alike, needless, ties
@@ -171,6 +172,14 @@ class Needless(unittest.TestCase):
         self.check(Book(1, [bracket(1, 0), bracket(2, 0), bracket(2, 1)]), [0, 1, 2])
         self.check(Book(1, [bracket(1, 0), bracket(2, 0)]), [1])
         self.check(Book(2, [SUMS, repeating(2, 1), Line(1, [(1, 0, [1, 0]), (-1, 1, [1, 0])], [])]), [])
+
+    def test_what_is_left_has_a_great_room(self):
+        halves = [bracket(2, 0), bracket(2, 1)]
+        for more in [[bracket(7, 0), bracket(5, 0)], [bracket(11, 0), bracket(9, 0), bracket(7, 1)]]:
+            book = Book(1, [SUMS, *halves, *more])
+            self.assertEqual([room(book), room(without_line(book, 0)) >= 70], [2, True])
+            self.check(book, list(range(len(book.lines()))))
+        self.check(Book(1, [SUMS, bracket(2, 0), repeating(4), told(0, 1, 0)]), [1, 2, 3])
 
     def test_random(self):
         seen = 0
