@@ -240,6 +240,40 @@ class Functions(unittest.TestCase):
             self.assertTrue(node.exc is None or isinstance(node.exc, ast.Call) and isinstance(node.exc.func, ast.Name))
 
 
+class Blocks(unittest.TestCase):
+    def test_handlers_name_own_errors(self):
+        own = {node.name for name, node in nodes(ast.ClassDef) if name == "errors"}
+        for name, node in nodes(ast.ExceptHandler):
+            told = node.type.elts if isinstance(node.type, ast.Tuple) else [node.type]
+            self.assertLessEqual({one.id for one in told}, own, (name, node.lineno))
+
+    def test_finally_and_exit_only_assign(self):
+        rows = [(name, row) for name, node in nodes(ast.Try) for row in node.finalbody]
+        rows += [(name, row) for name, node in functions() if node.name == "__exit__" for row in node.body]
+        self.assertTrue(rows)
+        for name, row in rows:
+            self.assertIsInstance(row, ast.Assign, (name, row.lineno))
+            self.assertIsInstance(row.value, (ast.Name, ast.Attribute), (name, row.lineno))
+            self.assertIsInstance(row.targets[0], (ast.Name, ast.Attribute), (name, row.lineno))
+
+    def test_items_come_with_a_refusal_to_iterate(self):
+        for name, made in nodes(ast.ClassDef):
+            named = {node.name: node for node in made.body if isinstance(node, ast.FunctionDef)}
+            if "__getitem__" in named:
+                self.assertRegex(ast.unparse(named["__iter__"].body[0]), r"^raise TypeError\('.*'\)$")
+        for path in PACKAGE.glob("*.py"):
+            self.assertNotRegex(path.read_text(encoding="ascii"), r"\(type\)|Meta|metaclass=|\.keys\b", path.name)
+
+    def test_tables_are_only_looked_into(self):
+        for name, tree in trees().items():
+            tables = [node.targets[0].id for node in tree.body
+                      if isinstance(node, ast.Assign) and isinstance(node.value, ast.Dict)]
+            parents = {child: node for node in ast.walk(tree) for child in ast.iter_child_nodes(node)}
+            for node in ast.walk(tree):
+                if isinstance(node, ast.Name) and node.id in tables and isinstance(node.ctx, ast.Load):
+                    self.assertIsInstance(parents[node], (ast.Subscript, ast.Compare), (name, node.lineno))
+
+
 class Interface(unittest.TestCase):
     def test_defined_where_it_is_listed(self):
         listed = {
